@@ -1,0 +1,1 @@
+"""Sizes with their limits, and stacks of gauge blocks; the calls are in gaugeblocks.sizes."""
