@@ -53,8 +53,12 @@ def is_hole_letter(letter):
     return ord("A") <= letter <= ord("Z")
 
 
+def is_letter(byte):
+    return is_shaft_letter(byte) or is_hole_letter(byte)
+
+
 def is_code(letter, g):
-    return (is_shaft_letter(letter) or is_hole_letter(letter)) and g <= GREATEST_CODE_GRADE
+    return is_letter(letter) and g <= GREATEST_CODE_GRADE
 
 
 def letter_number(letter):

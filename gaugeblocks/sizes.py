@@ -1,6 +1,10 @@
-"""The calls. Each answers a list of whole numbers; a refusal is its number alone."""
+"""The calls. Each answers a list of whole numbers; a refusal is its number alone, but for -2: a text's fault,
+behind which stand the fault's kind and place."""
 
 from gaugeblocks.limits import GREATEST_WIDTH_GRADE, are_fit, code_limits, is_code, is_nominal, unit_of, width_of
+from gaugeblocks.texts import is_right, size_bytes, size_of
+
+LONGEST_SIZE_TEXT = 64
 
 
 def unit(n):
@@ -27,3 +31,34 @@ def code(n, letter, g):
     if not are_fit(n, limits[0], limits[1]):
         return [-4]
     return [0] + limits
+
+
+def read(text):
+    """0, n, lo, hi, the form, the letter and the grade that a size's text says; -1: it's too long, -2: its fault."""
+    if len(text) > LONGEST_SIZE_TEXT:
+        return [-1]
+    return size_of(text)
+
+
+def write(n, lo, hi, form, letter, grade):
+    """How many bytes the size's text has, then they; -3: the size isn't right."""
+    if not is_right(n, lo, hi, form, letter, grade):
+        return [-3]
+    text = size_bytes(n, lo, hi, form, letter, grade)
+    return [len(text)] + text
+
+
+def fit(hole, shaft):
+    """1 if the shaft always goes in, 2 if it's never loose, else 0; then the least gap and the most gap; -1 and
+    -2 of the hole's text, then of the shaft's."""
+    outer = read(hole)
+    if outer[0] < 0:
+        return outer
+    inner = read(shaft)
+    if inner[0] < 0:
+        return inner
+    least = outer[1] + outer[2] - inner[1] - inner[3]
+    most = outer[1] + outer[3] - inner[1] - inner[2]
+    if least >= 0:
+        return [1, least, most]
+    return [2 if most <= 0 else 0, least, most]

@@ -24,7 +24,7 @@ METHODS = set("""append clear copy count endswith extend find get index insert i
     bit_length""".split())
 CHANGES = set("append clear extend insert pop remove reverse setdefault update".split())
 WALKED = set("zip enumerate reversed range items keys values".split())
-WALKERS = set("list tuple dict sorted sum any all enumerate zip min max join reversed".split())
+WALKERS = set("list tuple dict sorted sum any all enumerate zip min max join".split())
 UNUSED_NAMES = set("""register mro elements open input version_info with_traceback add_note attrgetter breakpoint
     builtins compile copyright credits delattr dir eval exec exit gc getattr globals hasattr help id importlib
     license locals methodcaller os quit setattr super vars sys chr set frozenset print""".split())
@@ -91,6 +91,15 @@ def top_faults(tree):
             faults.append(f"L3 line {node.lineno}: something that doesn't stand at a file's top")
     faults += [f"L15 {name}: bound twice at the top" for name in sorted(set(bound)) if bound.count(name) > 1]
     return faults
+
+
+def shadow_faults(tree):
+    """Parameters and locals that are called like an import of the file (L15)."""
+    imported = {alias.asname or alias.name for node in tree.body if isinstance(node, ast.ImportFrom)
+                for alias in node.names}
+    local = {node.arg for node in ast.walk(tree) if isinstance(node, ast.arg)}
+    local |= {node.id for node in ast.walk(tree) if isinstance(node, ast.Name) and isinstance(node.ctx, ast.Store)}
+    return [f"L15 {name}: called like an import of the file" for name in sorted(imported & local)]
 
 
 def is_docstring(node, parent):
@@ -243,7 +252,7 @@ def tree_faults(tree):
 
 def source_faults(source):
     tree = ast.parse(source)
-    return text_faults(source) + top_faults(tree) + tree_faults(tree)
+    return text_faults(source) + top_faults(tree) + shadow_faults(tree) + tree_faults(tree)
 
 
 def defined_names(source):

@@ -1,12 +1,25 @@
 """What DOC.md says of sizes, worked out another way than the package does, and sizes to try."""
 
 import math
+import re
+from fractions import Fraction
 
 GREATEST = 2147483647
 NOT_NOMINAL = (0, -1, -2, GREATEST + 1, 2 ** 32, -2 ** 31, -2 ** 40, 2 ** 40)
 SHAFTS = "abcdefghijklmnopqrstuvwxyz"
 HOLES = SHAFTS.upper()
 LETTERS = [ord(letter) for letter in SHAFTS + HOLES]
+BOUND = 2 ** 30
+NUMBER = r"(?:0|[1-9][0-9]{0,8})(?:\.[0-9]{0,3}[1-9])?"
+DEVIATION = rf"(?:\+{NUMBER}|-(?!0(?![.])){NUMBER})"
+FORMS = (
+    re.compile(rf"({NUMBER})"),
+    re.compile(rf"({NUMBER}) \+-({NUMBER})"),
+    re.compile(rf"({NUMBER}) ({DEVIATION}) ({DEVIATION})"),
+    re.compile(rf"({NUMBER}) ([A-Za-z])(0|[1-9]|1[0-6])"),
+)
+# a text that begins a size's is made one by one of these
+ENDINGS = ("", "1", ".1", "+-1", "-1", " +1", "+1", "1 +1", ".1 +1")
 NOT_LETTERS = (0, 1, 48, 64, 91, 95, 96, 123, 128, 255, 256 + 97, 65536 + 72, 4294967295)
 
 
@@ -60,5 +73,100 @@ def limits(n, letter, g):
 def code(n, letter, g):
     """What code answers for a nominal size and a code."""
     lo, hi = limits(n, letter, g)
-    fit = lo <= hi and n + lo >= 1 and abs(lo) <= 2 ** 30 and abs(hi) <= 2 ** 30
-    return [0, lo, hi] if fit else [-4]
+    return [0, lo, hi] if fit_for(n, lo, hi) else [-4]
+
+
+def fit_for(n, lo, hi):
+    return lo <= hi and n + lo >= 1 and abs(lo) <= BOUND and abs(hi) <= BOUND
+
+
+def as_bytes(text):
+    return list(text.encode("latin-1"))
+
+
+def as_text(numbers):
+    return bytes(numbers).decode("latin-1")
+
+
+def ticks(number):
+    value = Fraction(number) * 10000
+    assert value.denominator == 1
+    return int(value)
+
+
+def form_of(text):
+    """The form that the text has by its shape and what it's made of, or None."""
+    for form, pattern in enumerate(FORMS):
+        found = pattern.fullmatch(text)
+        if found:
+            return form, found
+    return None
+
+
+def begins_a_size(text):
+    return any(form_of(text + ending) for ending in ENDINGS)
+
+
+def shape_place(text):
+    """The place of fault 1 of a text that has it."""
+    for place in range(len(text)):
+        if not begins_a_size(text[:place + 1]):
+            return place
+    return len(text)
+
+
+def limits_said(form, found):
+    if form == 0:
+        return 0, 0
+    if form == 1:
+        return -ticks(found[2]), ticks(found[2])
+    if form == 2:
+        return ticks(found[3]), ticks(found[2])
+    return limits(ticks(found[1]), ord(found[2]), int(found[3]))
+
+
+def read(text):
+    """What read answers of a text of 64 bytes at most, which is a str here."""
+    shape = form_of(text)
+    if shape is None:
+        return [-2, 1, shape_place(text)]
+    form, found = shape
+    n = ticks(found[1])
+    if not 1 <= n <= GREATEST:
+        return [-2, 2, 0]
+    lo, hi = limits_said(form, found)
+    for group in {1: [2], 2: [2, 3]}.get(form, []):
+        if abs(ticks(found[group])) > BOUND:
+            return [-2, 3, found.start(group) + form - 1]
+    if form == 2 and lo > hi:
+        return [-2, 4, found.start(3)]
+    if not fit_for(n, lo, hi):
+        return [-2, 5, len(found[1]) + 1]
+    letter, grade = (ord(found[2]), int(found[3])) if form == 3 else (0, 0)
+    return [0, n, lo, hi, form, letter, grade]
+
+
+def number_text(value):
+    whole, rest = divmod(value, 10000)
+    return f"{whole}.{rest:04}".rstrip("0").rstrip(".") if rest else str(whole)
+
+
+def deviation_text(value):
+    return ("-" if value < 0 else "+") + number_text(abs(value))
+
+
+def size_text(n, lo, hi, form, letter=0, grade=0):
+    """The size written; of numbers that can't be written, something that's no size's text."""
+    if min(n, form) < 0 or form > 3 or (form == 1 and hi < 0) or (form == 3 and letter > 255):
+        return "none"
+    tails = ("", f" +-{number_text(abs(hi))}", f" {deviation_text(hi)} {deviation_text(lo)}",
+             f" {chr(letter % 256)}{grade}")
+    return number_text(n) + tails[form]
+
+
+def write(n, lo, hi, form, letter, grade):
+    """What write answers."""
+    text = size_text(n, lo, hi, form, letter, grade)
+    if read(text) != [0, n, lo, hi, form, letter, grade]:
+        return [-3]
+    return [len(text)] + as_bytes(text)

@@ -1,16 +1,21 @@
 """The interface: names, arguments, kinds; nothing is printed, changed or kept."""
 
 import contextlib
+import copy
 import inspect
 import io
 import unittest
 
 from gaugeblocks import sizes
+from reference import as_bytes
 
 ARGUMENTS = {
     "unit": ["n"],
     "width": ["n", "g"],
     "code": ["n", "letter", "g"],
+    "read": ["text"],
+    "write": ["n", "lo", "hi", "form", "letter", "grade"],
+    "fit": ["hole", "shaft"],
 }
 CALLS = [
     ("unit", (250000,)),
@@ -22,7 +27,35 @@ CALLS = [
     ("code", (0, 72, 7)),
     ("code", (250000, 0, 7)),
     ("code", (1, 104, 0)),
+    ("read", (as_bytes("25"),)),
+    ("read", (as_bytes("25 +-0.05"),)),
+    ("read", (as_bytes("25 +0.02 -0.01"),)),
+    ("read", (as_bytes("25 H7"),)),
+    ("read", ([],)),
+    ("read", ([255] * 64,)),
+    ("read", ([49] * 100,)),
+    ("read", (as_bytes("25 +0.01 +0.02"),)),
+    ("write", (250000, 0, 0, 0, 0, 0)),
+    ("write", (250000, -500, 500, 1, 0, 0)),
+    ("write", (250000, -100, 200, 2, 0, 0)),
+    ("write", (250000, 0, 159, 3, 72, 7)),
+    ("write", (250000, 0, 159, 4, 72, 7)),
+    ("fit", (as_bytes("25 H7"), as_bytes("25 g6"))),
+    ("fit", (as_bytes("25 +-1"), as_bytes("25 +-1"))),
+    ("fit", (as_bytes("25"), as_bytes("26"))),
+    ("fit", ([49] * 65, as_bytes("25 g6"))),
+    ("fit", (as_bytes("25 H7"), as_bytes("25 "))),
 ]
+
+
+class Sealed(list):
+    """A list that can't be changed, not for a while either."""
+
+    def refuse(self, *arguments, **named):
+        raise AssertionError("a list that was handed in is changed")
+
+    append = clear = extend = insert = pop = remove = reverse = sort = refuse
+    __setitem__ = __delitem__ = __iadd__ = __imul__ = refuse
 
 
 def answer(call):
@@ -50,11 +83,27 @@ class Interface(unittest.TestCase):
             for number in result:
                 self.assertIs(type(number), int, call)
 
-    def test_a_refusal_is_its_number_alone(self):
+    def test_a_refusal_is_its_number_alone_but_for_a_fault(self):
         for call in CALLS:
             result = answer(call)
             if result[0] < 0:
-                self.assertEqual(len(result), 1, call)
+                self.assertEqual(len(result), 3 if result[0] == -2 else 1, call)
+
+    def test_every_call_is_tried(self):
+        self.assertEqual({name for name, arguments in CALLS}, set(ARGUMENTS))
+
+    def test_what_is_handed_in_stays_as_it_was(self):
+        for name, arguments in CALLS:
+            kept = copy.deepcopy(arguments)
+            result = answer((name, arguments))
+            self.assertEqual(arguments, kept, name)
+            for given in arguments:
+                self.assertIsNot(given, result, name)
+
+    def test_what_is_handed_in_is_not_changed_for_a_while(self):
+        for name, arguments in CALLS:
+            sealed = [Sealed(given) if isinstance(given, list) else given for given in arguments]
+            self.assertEqual(answer((name, sealed)), answer((name, arguments)), name)
 
     def test_nothing_is_kept(self):
         first = [answer(call) for call in CALLS]
