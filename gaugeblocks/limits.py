@@ -4,6 +4,7 @@ GREATEST_SIZE = 2147483647
 GREATEST_DEVIATION = 1073741824
 GREATEST_WIDTH_GRADE = 21
 GREATEST_CODE_GRADE = 16
+LETTERS = 26
 
 
 def is_nominal(n):
@@ -75,3 +76,25 @@ def code_limits(n, letter, g):
     if is_shaft_letter(letter) == (m > 0):
         return [step, step + w]
     return [-step - w, -step]
+
+
+def lowest_letter(n, lo, hi, first, g):
+    """Of the 26 letters from first on that make codes of grade g inside lo and hi the one of the least lo, or 0."""
+    found = 0
+    lowest = 0
+    for letter in range(first, first + LETTERS):
+        limits = code_limits(n, letter, g)
+        inside = lo <= limits[0] and limits[1] <= hi and are_fit(n, limits[0], limits[1])
+        if inside and (found == 0 or limits[0] < lowest):
+            found = letter
+            lowest = limits[0]
+    return found
+
+
+def widest_code(n, lo, hi, first):
+    """The letter and the grade of the widest code inside lo and hi, as a list; an empty one if there's none."""
+    for g in range(GREATEST_CODE_GRADE, -1, -1):
+        letter = lowest_letter(n, lo, hi, first, g)
+        if letter > 0:
+            return [letter, g]
+    return []

@@ -1,7 +1,9 @@
 """The calls. Each answers a list of whole numbers; a refusal is its number alone, but for -2: a text's fault,
 behind which stand the fault's kind and place."""
 
-from gaugeblocks.limits import GREATEST_WIDTH_GRADE, are_fit, code_limits, is_code, is_nominal, unit_of, width_of
+from gaugeblocks.boxes import blocks_of, box_bytes, box_refusal
+from gaugeblocks.limits import GREATEST_WIDTH_GRADE, are_fit, code_limits, is_code, is_nominal, unit_of, widest_code
+from gaugeblocks.limits import width_of
 from gaugeblocks.texts import is_right, size_bytes, size_of
 
 LONGEST_SIZE_TEXT = 64
@@ -62,3 +64,35 @@ def fit(hole, shaft):
     if least >= 0:
         return [1, least, most]
     return [2 if most <= 0 else 0, least, most]
+
+
+def inside(n, lo, hi, hole):
+    """0, then the letter and the grade of the widest code inside lo and hi, a shaft's if hole is 0, else a hole's;
+    -3: n is no nominal size, or lo is above hi; -5: there's none."""
+    if not is_nominal(n) or lo > hi:
+        return [-3]
+    found = widest_code(n, lo, hi, ord("a") if hole == 0 else ord("A"))
+    if not found:
+        return [-5]
+    return [0] + found
+
+
+def box(box):
+    """How many blocks the box has, then of each its length, lo and hi; -1: its text is too long, -2: its fault."""
+    refusal = box_refusal(box)
+    if refusal:
+        return refusal
+    blocks = blocks_of(box)
+    answer = [len(blocks)]
+    for block in blocks:
+        answer.extend(block)
+    return answer
+
+
+def again(box):
+    """How many bytes the box has, written, then they; -1 and -2 as of box."""
+    refusal = box_refusal(box)
+    if refusal:
+        return refusal
+    text = box_bytes(blocks_of(box))
+    return [len(text)] + text

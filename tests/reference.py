@@ -1,4 +1,4 @@
-"""What DOC.md says of sizes, worked out another way than the package does, and sizes to try."""
+"""What DOC.md says of sizes and boxes, worked out another way than the package does, and sizes to try."""
 
 import math
 import re
@@ -20,6 +20,8 @@ FORMS = (
 )
 # a text that begins a size's is made one by one of these
 ENDINGS = ("", "1", ".1", "+-1", "-1", " +1", "+1", "1 +1", ".1 +1")
+# the document's box
+SIX_LINES = "1 +-0.0001\n1.01 +-0.0001\n1.1 +-0.0002\n2 +-0.0001\n10 +0.0002 -0.0001\n20 +-0.0003\n"
 NOT_LETTERS = (0, 1, 48, 64, 91, 95, 96, 123, 128, 255, 256 + 97, 65536 + 72, 4294967295)
 
 
@@ -170,3 +172,61 @@ def write(n, lo, hi, form, letter, grade):
     if read(text) != [0, n, lo, hi, form, letter, grade]:
         return [-3]
     return [len(text)] + as_bytes(text)
+
+
+def all_codes(n, hole):
+    """Of all codes of a kind, whose limits are fit for n: grade, lo, hi and letter."""
+    rows = [(g,) + limits(n, ord(letter), g) + (ord(letter),) for letter in (HOLES if hole else SHAFTS) for g in range(17)]
+    return [row for row in rows if fit_for(n, row[1], row[2])]
+
+
+def inside(codes, lo, hi):
+    """What inside answers, by a search through all_codes."""
+    within = [(-g, low, letter) for g, low, high, letter in codes if lo <= low and high <= hi]
+    if not within:
+        return [-5]
+    grade, low, letter = min(within)
+    return [0, letter, -grade]
+
+
+def is_block(size):
+    n, lo, hi, form = size[1:5]
+    return form < 3 and n % 10 == 0 and 10 <= n <= 1000000 and -4096 <= lo <= hi <= 4096 and n + lo >= 1
+
+
+def line_fault(line, begin, number):
+    if number == 20:
+        return [-2, 8, begin]
+    size = read(line)
+    if size[0] == -2:
+        return [-2, size[1], size[2] + begin]
+    return [] if is_block(size) else [-2, 6, begin]
+
+
+def box(text):
+    """What box answers of a text of 4,096 bytes at most, which is a str here."""
+    if text == "":
+        return [-2, 7, 0]
+    begin = 0
+    answer = [0]
+    for line in re.findall("[^\n]*\n|[^\n]+", text):
+        bare = line.rstrip("\n")
+        found = line_fault(bare, begin, answer[0])
+        if not found and bare == line:
+            found = [-2, 7, len(text)]
+        if found:
+            return found
+        answer = [answer[0] + 1] + answer[1:] + read(bare)[1:4]
+        begin += len(line)
+    return answer
+
+
+def box_text(blocks):
+    """The text of a box, its blocks told as length, lo and hi."""
+    forms = [0 if lo == hi == 0 else 1 if lo == -hi else 2 for length, lo, hi in blocks]
+    return "".join(size_text(*block, form) + "\n" for block, form in zip(blocks, forms))
+
+
+def blocks_of(answer):
+    """The blocks in an answer of box."""
+    return [tuple(answer[k:k + 3]) for k in range(1, len(answer), 3)]

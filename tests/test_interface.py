@@ -7,7 +7,7 @@ import io
 import unittest
 
 from gaugeblocks import sizes
-from reference import as_bytes
+from reference import SIX_LINES, as_bytes
 
 ARGUMENTS = {
     "unit": ["n"],
@@ -16,7 +16,11 @@ ARGUMENTS = {
     "read": ["text"],
     "write": ["n", "lo", "hi", "form", "letter", "grade"],
     "fit": ["hole", "shaft"],
+    "inside": ["n", "lo", "hi", "hole"],
+    "box": ["box"],
+    "again": ["box"],
 }
+SIX = as_bytes(SIX_LINES)
 CALLS = [
     ("unit", (250000,)),
     ("unit", (0,)),
@@ -45,6 +49,18 @@ CALLS = [
     ("fit", (as_bytes("25"), as_bytes("26"))),
     ("fit", ([49] * 65, as_bytes("25 g6"))),
     ("fit", (as_bytes("25 H7"), as_bytes("25 "))),
+    ("inside", (250000, -168, -56, 0)),
+    ("inside", (250000, 0, 159, 4294967295)),
+    ("inside", (250000, 1, 0, 0)),
+    ("inside", (250000, 0, 0, 0)),
+    ("box", (SIX,)),
+    ("box", ([],)),
+    ("box", ([49] * 4300,)),
+    ("box", (as_bytes("1\n1 h7\n"),)),
+    ("again", (SIX,)),
+    ("again", (as_bytes("1 +0 +0\n1 +0.1 -0.1\n"),)),
+    ("again", (as_bytes("1"),)),
+    ("again", ([49] * 4097,)),
 ]
 
 
