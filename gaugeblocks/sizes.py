@@ -4,6 +4,8 @@ behind which stand the fault's kind and place."""
 from gaugeblocks.boxes import blocks_of, box_bytes, box_refusal
 from gaugeblocks.limits import GREATEST_WIDTH_GRADE, are_fit, code_limits, is_code, is_nominal, unit_of, widest_code
 from gaugeblocks.limits import width_of
+from gaugeblocks.stacks import GREATEST_FILM, best_stack, is_stack, least_of, length_of, lengths_of, most_of
+from gaugeblocks.stacks import nearest_length, stacks_without
 from gaugeblocks.texts import is_right, size_bytes, size_of
 
 LONGEST_SIZE_TEXT = 64
@@ -96,3 +98,46 @@ def again(box):
         return refusal
     text = box_bytes(blocks_of(box))
     return [len(text)] + text
+
+
+def box_or_film_refusal(box, f):
+    """The refusal of a call that takes a box and a film, or an empty list."""
+    refusal = box_refusal(box)
+    if not refusal and f > GREATEST_FILM:
+        return [-3]
+    return refusal
+
+
+def true_of(f, box, row):
+    """0, then the length of a stack, its least and its most; -1 and -2 as of box; -3: f is above 1,000;
+    -5: the row is no stack of the box."""
+    refusal = box_or_film_refusal(box, f)
+    if refusal:
+        return refusal
+    blocks = blocks_of(box)
+    if not is_stack(len(blocks), row):
+        return [-5]
+    return [0, length_of(blocks, row), least_of(blocks, row), most_of(blocks, row, f)]
+
+
+def stack(f, z, box, barred):
+    """How many blocks the best stack of length z has, then their numbers; -1, -2 and -3 as of true_of;
+    -5: there's none."""
+    refusal = box_or_film_refusal(box, f)
+    if refusal:
+        return refusal
+    blocks = blocks_of(box)
+    best = best_stack(blocks, stacks_without(len(blocks), barred), f, z)
+    return [len(best)] + best if best else [-5]
+
+
+def next_of(f, z, up, box, barred):
+    """As stack, for the greatest length that's at most z if up is 0, else for the least that's at least z;
+    -5: no stack has such a length."""
+    refusal = box_or_film_refusal(box, f)
+    if refusal:
+        return refusal
+    blocks = blocks_of(box)
+    stacks = stacks_without(len(blocks), barred)
+    best = best_stack(blocks, stacks, f, nearest_length(lengths_of(blocks, stacks), z, up))
+    return [len(best)] + best if best else [-5]

@@ -1,5 +1,6 @@
 """What DOC.md says of sizes and boxes, worked out another way than the package does, and sizes to try."""
 
+import itertools
 import math
 import re
 from fractions import Fraction
@@ -230,3 +231,50 @@ def box_text(blocks):
 def blocks_of(answer):
     """The blocks in an answer of box."""
     return [tuple(answer[k:k + 3]) for k in range(1, len(answer), 3)]
+
+
+def stacks(count, barred=()):
+    free = [number for number in range(count) if number not in barred]
+    return [row for size in range(1, 6) for row in itertools.combinations(free, size)]
+
+
+def true_of(blocks, f, row):
+    """Length, least and most of a stack, its blocks one on another."""
+    length = least = most = 0
+    for place, number in enumerate(row):
+        block = blocks[number]
+        length += block[0]
+        least += block[0] + block[1]
+        most += block[0] + block[2] + (f if place > 0 else 0)
+    return length, least, most
+
+
+def ranked(blocks, f, barred=()):
+    """All stacks without barred numbers by their lengths, the better one of two first."""
+    by_length = {}
+    for row in stacks(len(blocks), barred):
+        length, least, most = true_of(blocks, f, row)
+        by_length.setdefault(length, []).append((len(row), most - least, row))
+    return {length: [list(rank[2]) for rank in sorted(ranks)] for length, ranks in by_length.items()}
+
+
+def stack(by_length, z):
+    """What stack answers, by what ranked tells."""
+    best = by_length.get(z, [[]])[0]
+    return [len(best)] + best if best else [-5]
+
+
+def next_of(by_length, z, up):
+    """What next_of answers, by what ranked tells."""
+    reached = sorted(length for length in by_length if (length >= z if up else length <= z))
+    return stack(by_length, reached[0 if up else -1]) if reached else [-5]
+
+
+def small_boxes():
+    """Boxes of few blocks whose stacks have many lengths in common, each as its blocks."""
+    boxes = []
+    for seed in range(40):
+        count = 1 + seed % 7
+        numbers = [(seed * 7919 + k * 104729 + k * k * 31 * seed) % 1009 for k in range(count)]
+        boxes.append([(10 * (1 + number % (3 + seed % 5)), -(number % 4), number // 9 % 5) for number in numbers])
+    return boxes

@@ -19,6 +19,9 @@ ARGUMENTS = {
     "inside": ["n", "lo", "hi", "hole"],
     "box": ["box"],
     "again": ["box"],
+    "true_of": ["f", "box", "row"],
+    "stack": ["f", "z", "box", "barred"],
+    "next_of": ["f", "z", "up", "box", "barred"],
 }
 SIX = as_bytes(SIX_LINES)
 CALLS = [
@@ -61,6 +64,20 @@ CALLS = [
     ("again", (as_bytes("1 +0 +0\n1 +0.1 -0.1\n"),)),
     ("again", (as_bytes("1"),)),
     ("again", ([49] * 4097,)),
+    ("true_of", (1, SIX, [0, 1, 2, 4, 5])),
+    ("true_of", (1, SIX, [5, 4])),
+    ("true_of", (1001, SIX, [])),
+    ("true_of", (1, [], [0])),
+    ("stack", (1, 331100, SIX, [])),
+    ("stack", (1, 31000, SIX, [5, 0, 5, 4294967295])),
+    ("stack", (1, 0, SIX, [3])),
+    ("stack", (1001, 31000, SIX, [3])),
+    ("stack", (1, 31000, [10], [3])),
+    ("next_of", (1, 30500, 0, SIX, [])),
+    ("next_of", (1, 30500, 1, SIX, [2, 2, 1])),
+    ("next_of", (1, 0, 0, SIX, [2])),
+    ("next_of", (1001, 0, 0, SIX, [2])),
+    ("next_of", (1, 0, 0, [49] * 4300, [2])),
 ]
 
 
