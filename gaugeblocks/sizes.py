@@ -4,8 +4,8 @@ behind which stand the fault's kind and place."""
 from gaugeblocks.boxes import blocks_of, box_bytes, box_refusal
 from gaugeblocks.limits import GREATEST_WIDTH_GRADE, are_fit, code_limits, is_code, is_nominal, unit_of, widest_code
 from gaugeblocks.limits import width_of
-from gaugeblocks.stacks import GREATEST_FILM, best_stack, is_stack, least_of, length_of, lengths_of, most_of
-from gaugeblocks.stacks import nearest_length, stacks_without
+from gaugeblocks.stacks import GREATEST_FILM, best_stack, first_gap, is_stack, least_of, length_of, lengths_of
+from gaugeblocks.stacks import most_of, nearest_length, stacks_without
 from gaugeblocks.texts import is_right, size_bytes, size_of
 
 LONGEST_SIZE_TEXT = 64
@@ -141,3 +141,16 @@ def next_of(f, z, up, box, barred):
     stacks = stacks_without(len(blocks), barred)
     best = best_stack(blocks, stacks, f, nearest_length(lengths_of(blocks, stacks), z, up))
     return [len(best)] + best if best else [-5]
+
+
+def gap(first, to, by, box, barred):
+    """1, then the first of the lengths first, first + by, first + 2 by, .. up to `to` that no stack has; 0: there's
+    none; -1 and -2 as of box; -3: by is below 1."""
+    refusal = box_refusal(box)
+    if refusal:
+        return refusal
+    if by < 1:
+        return [-3]
+    blocks = blocks_of(box)
+    found = first_gap(lengths_of(blocks, stacks_without(len(blocks), barred)), first, to, by)
+    return [1] + found if found else [0]

@@ -76,3 +76,16 @@ def nearest_length(lengths, z, up):
     if up == 0:
         return max([length for length in lengths if length <= z], default=0)
     return min([length for length in lengths if length >= z], default=0)
+
+
+def first_gap(lengths, first, to, by):
+    """As a list the first of first, first + by, first + 2 by, .. that's none of the lengths; an empty list if that's
+    above to."""
+    built = {}
+    for length in lengths:
+        built[length] = True
+    wanted = first
+    # each step passes over another of the lengths, so there are no more steps than lengths
+    while wanted <= to and wanted in built:
+        wanted += by
+    return [wanted] if wanted <= to else []

@@ -270,6 +270,11 @@ def next_of(by_length, z, up):
     return stack(by_length, reached[0 if up else -1]) if reached else [-5]
 
 
+def gap(by_length, first, to, by):
+    """What gap answers, by what ranked tells."""
+    return next(([1, z] for z in range(first, to + 1, by) if z not in by_length), [0])
+
+
 def small_boxes():
     """Boxes of few blocks whose stacks have many lengths in common, each as its blocks."""
     boxes = []

@@ -22,6 +22,7 @@ ARGUMENTS = {
     "true_of": ["f", "box", "row"],
     "stack": ["f", "z", "box", "barred"],
     "next_of": ["f", "z", "up", "box", "barred"],
+    "gap": ["first", "to", "by", "box", "barred"],
 }
 SIX = as_bytes(SIX_LINES)
 CALLS = [
@@ -78,6 +79,11 @@ CALLS = [
     ("next_of", (1, 0, 0, SIX, [2])),
     ("next_of", (1001, 0, 0, SIX, [2])),
     ("next_of", (1, 0, 0, [49] * 4300, [2])),
+    ("gap", (10000, 40000, 10000, SIX, [])),
+    ("gap", (10000, 40000, 10000, SIX, [5, 3, 3, 4294967295])),
+    ("gap", (10000, 9999, 10000, SIX, [])),
+    ("gap", (10000, 40000, 0, SIX, [])),
+    ("gap", (10000, 40000, 1, as_bytes("1\n2"), [])),
 ]
 
 
@@ -147,6 +153,13 @@ class Interface(unittest.TestCase):
         self.assertEqual([answer(call) for call in CALLS], wanted)
         backwards = [answer(call) for call in reversed(CALLS)]
         self.assertEqual(backwards, wanted[::-1])
+
+    def test_a_call_answers_the_same_behind_any_other(self):
+        wanted = [answer(call) for call in CALLS]
+        for earlier in CALLS:
+            for call, result in zip(CALLS, wanted):
+                answer(earlier)
+                self.assertEqual(answer(call), result, (earlier, call))
 
     def test_nothing_is_printed(self):
         out = io.StringIO()
