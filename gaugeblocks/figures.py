@@ -15,8 +15,8 @@ NINE = 57
 TICKS = 10000
 MOST_DIGITS = 9
 MOST_DECIMALS = 4
-# the ticks of a last digit of 1, by how many digits stand behind the point
-DECIMAL_TICKS = (10000, 1000, 100, 10, 1)
+# the ticks of a last digit of 1, by how many digits stand between the point and it
+DECIMAL_TICKS = (1000, 100, 10, 1)
 
 
 def byte_at(text, place):
@@ -70,7 +70,7 @@ def number_at(text, start):
     end = decimals_end(text, point + 1)
     if end == point + 1 or text[end - 1] == ZERO:
         return [end, None]
-    return [end, ticks + digits_value(text, point + 1, end) * DECIMAL_TICKS[end - point - 1]]
+    return [end, ticks + digits_value(text, point + 1, end) * DECIMAL_TICKS[end - point - 2]]
 
 
 def deviation_at(text, start):

@@ -1,7 +1,7 @@
 """Sizes' texts: their faults, what they say, and how a size is written."""
 
-from gaugeblocks.figures import BLANK, MINUS, PLUS, byte_at, bytes_of, deviation_at, deviation_bytes, digits_value
-from gaugeblocks.figures import grade_at, is_sign, number_at, number_bytes
+from gaugeblocks.figures import BLANK, MINUS, PLUS, byte_at, bytes_of, deviation_at, deviation_bytes, grade_at
+from gaugeblocks.figures import is_sign, number_at, number_bytes
 from gaugeblocks.limits import GREATEST_DEVIATION, are_fit, code_limits, is_code, is_letter, is_nominal
 
 ALONE = 0
@@ -81,7 +81,7 @@ def size_of_deviations(text, n, end):
 
 def size_of_code(text, n, end):
     letter = text[end + 1]
-    grade = digits_value(text, end + 2, len(text))
+    grade = grade_at(text, end + 2)[1]
     limits = code_limits(n, letter, grade)
     return fit_or_fault([n, limits[0], limits[1], CODE, letter, grade], end)
 

@@ -4,8 +4,9 @@ import time
 import unittest
 
 from gaugeblocks.sizes import next_of, stack
+from gaugeblocks.stacks import best_stack, is_better
 from reference import SIX_LINES, as_bytes, box_text, next_of as expected_next, ranked, small_boxes, stack as expected
-from reference import true_of
+from reference import stacks, true_of
 
 SIX = as_bytes(SIX_LINES)
 TWENTY_ALIKE = as_bytes("1 +-0.0001\n" * 20)
@@ -177,6 +178,26 @@ class Next(unittest.TestCase):
                 self.check(-FAR, up, [-1], [49] * 4300, f=f)
                 self.check(-FAR, up, [-2, 1, 0], [10], f=f)
                 self.check(-FAR, up, [-2, 7, 1], [49], f=f)
+
+
+class Better(unittest.TestCase):
+    """Which of two stacks is better, whichever is seen first."""
+
+    def test_all_pairs(self):
+        blocks = [(10, -1, 1), (20, -2, 2), (10, 0, 1), (20, -1, 0), (10, 0, 0), (10, 0, 0)]
+        rows = [list(row) for row in stacks(len(blocks))]
+        for f in (0, 2):
+            ranks = [(len(row), true_of(blocks, f, row)[2] - true_of(blocks, f, row)[1], row) for row in rows]
+            for rank in ranks:
+                for other in ranks:
+                    self.assertEqual(is_better(blocks, f, rank[2], other[2]), rank < other, (rank, other))
+
+    def test_stacks_in_another_order(self):
+        blocks = [(10, 0, 0), (20, 0, 1), (30, 0, 0), (40, 0, 1), (10, 0, 0)]
+        rows = [list(row) for row in stacks(len(blocks))]
+        for length in range(10, 120, 10):
+            best = best_stack(blocks, rows, 1, length)
+            self.assertEqual(best_stack(blocks, rows[::-1], 1, length), best, length)
 
 
 class ManyBoxes(unittest.TestCase):
